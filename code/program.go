@@ -1,0 +1,116 @@
+// Package code: what a program is made of, and how it is read from its text.
+package code
+
+import "solo/set"
+
+// RegNumber is a register's number, BlockNumber a block's: two types, so that neither is taken for the other.
+type RegNumber int
+
+type BlockNumber int
+
+// Reg is a register where a text names it.
+type Reg struct {
+	Number RegNumber
+	At     int // the place of its r
+}
+
+// Goal is a block where a text names it.
+type Goal struct {
+	Number BlockNumber
+	At     int // the place of its first digit
+}
+
+type Program []Block
+
+type Block struct {
+	At      int // the place of its first byte
+	Choices []Choice
+	Steps   []Step
+	End     End
+}
+
+// Choice gives a register, when a block is entered, what another one held.
+type Choice struct {
+	To      Reg
+	Sources []Source
+}
+
+// Source says which register is chosen, if one comes from a block.
+type Source struct {
+	Block Goal
+	Reg   Reg
+}
+
+// Step is one of Load, Copy, Compute, Take and Put.
+type Step interface{ isStep() }
+
+// Load is the step reg = value.
+type Load struct {
+	To    Reg
+	Value Word
+}
+
+// Copy is the step reg = reg.
+type Copy struct{ To, From Reg }
+
+// Compute is the step reg = reg op reg.
+type Compute struct {
+	To, Left Reg
+	Op       Op
+	Right    Reg
+}
+
+// Take is the step reg = ?.
+type Take struct{ To Reg }
+
+// Put is the step !reg.
+type Put struct{ From Reg }
+
+func (Load) isStep()    {}
+func (Copy) isStep()    {}
+func (Compute) isStep() {}
+func (Take) isStep()    {}
+func (Put) isStep()     {}
+
+// End is one of Stop, Jump and Fork.
+type End interface {
+	// Goals lists where the end may go, as the text names it.
+	Goals() []Goal
+}
+
+// Stop is the end of a run.
+type Stop struct{}
+
+// Jump goes to one block.
+type Jump struct{ To Goal }
+
+// Fork goes to one of two blocks.
+type Fork struct {
+	If         Reg
+	Then, Else Goal
+}
+
+func (Stop) Goals() []Goal   { return nil }
+func (j Jump) Goals() []Goal { return []Goal{j.To} }
+func (f Fork) Goals() []Goal { return []Goal{f.Then, f.Else} }
+
+// Ahead tells for each block the blocks that are ahead of it. Every goal of an end must be a block of the program.
+func (p Program) Ahead() []set.Set[BlockNumber] {
+	ahead := make([]set.Set[BlockNumber], len(p))
+	for i, block := range p {
+		for _, goal := range block.End.Goals() {
+			ahead[goal.Number].Add(BlockNumber(i))
+		}
+	}
+	return ahead
+}
+
+// RegFrom tells which register is chosen, if one comes from the block; false, if the choice does not name that block.
+func (c Choice) RegFrom(block BlockNumber) (RegNumber, bool) {
+	for _, source := range c.Sources {
+		if source.Block.Number == block {
+			return source.Reg.Number, true
+		}
+	}
+	return 0, false
+}
