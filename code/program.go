@@ -42,7 +42,12 @@ type Source struct {
 }
 
 // Step is one of Load, Copy, Compute, Take and Put.
-type Step interface{ isStep() }
+type Step interface {
+	// Reads lists the registers that the step reads, in the order of the text.
+	Reads() []Reg
+	// Gives tells the register that the step gives; false, if it gives none.
+	Gives() (Reg, bool)
+}
 
 // Load is the step reg = value.
 type Load struct {
@@ -66,16 +71,24 @@ type Take struct{ To Reg }
 // Put is the step !reg.
 type Put struct{ From Reg }
 
-func (Load) isStep()    {}
-func (Copy) isStep()    {}
-func (Compute) isStep() {}
-func (Take) isStep()    {}
-func (Put) isStep()     {}
+func (Load) Reads() []Reg      { return nil }
+func (c Copy) Reads() []Reg    { return []Reg{c.From} }
+func (c Compute) Reads() []Reg { return []Reg{c.Left, c.Right} }
+func (Take) Reads() []Reg      { return nil }
+func (p Put) Reads() []Reg     { return []Reg{p.From} }
+
+func (l Load) Gives() (Reg, bool)    { return l.To, true }
+func (c Copy) Gives() (Reg, bool)    { return c.To, true }
+func (c Compute) Gives() (Reg, bool) { return c.To, true }
+func (t Take) Gives() (Reg, bool)    { return t.To, true }
+func (Put) Gives() (Reg, bool)       { return Reg{}, false }
 
 // End is one of Stop, Jump and Fork.
 type End interface {
 	// Goals lists where the end may go, as the text names it.
 	Goals() []Goal
+	// Reads lists the registers that the end reads.
+	Reads() []Reg
 }
 
 // Stop is the end of a run.
@@ -93,6 +106,19 @@ type Fork struct {
 func (Stop) Goals() []Goal   { return nil }
 func (j Jump) Goals() []Goal { return []Goal{j.To} }
 func (f Fork) Goals() []Goal { return []Goal{f.Then, f.Else} }
+
+func (Stop) Reads() []Reg   { return nil }
+func (Jump) Reads() []Reg   { return nil }
+func (f Fork) Reads() []Reg { return []Reg{f.If} }
+
+// Behind tells the blocks behind the block.
+func (b Block) Behind() set.Set[BlockNumber] {
+	var behind set.Set[BlockNumber]
+	for _, goal := range b.End.Goals() {
+		behind.Add(goal.Number)
+	}
+	return behind
+}
 
 // Ahead tells for each block the blocks that are ahead of it. Every goal of an end must be a block of the program.
 func (p Program) Ahead() []set.Set[BlockNumber] {

@@ -1,7 +1,6 @@
 package code
 
 import (
-	"fmt"
 	"reflect"
 	"testing"
 )
@@ -37,34 +36,6 @@ func TestReadGivesUp(t *testing.T) {
 		got, at, ok := Read(c.text)
 		if ok || at != c.at || got != nil {
 			t.Errorf("Read(%q) = %v, %d, %v, want the place %d", c.text, got, at, ok, c.at)
-		}
-	}
-}
-
-func TestAhead(t *testing.T) {
-	program, _, ok := Read("r1?2:1|r1?2:2|>0|>3")
-	if !ok {
-		t.Fatal("no program")
-	}
-	var got [][]BlockNumber
-	for _, blocks := range program.Ahead() {
-		got = append(got, blocks.Items())
-	}
-	if want := "[[2] [0] [0 1] [3]]"; fmt.Sprint(got) != want {
-		t.Errorf("Ahead() = %v, want %s", got, want)
-	}
-}
-
-func TestRegFrom(t *testing.T) {
-	program, _, ok := Read("r1@0:r5,2:r6;.")
-	if !ok {
-		t.Fatal("no program")
-	}
-	choice := program[0].Choices[0]
-	for block, want := range []string{"5 true", "0 false", "6 true", "0 false"} {
-		reg, found := choice.RegFrom(BlockNumber(block))
-		if got := fmt.Sprint(reg, found); got != want {
-			t.Errorf("RegFrom(%d) = %s, want %s", block, got, want)
 		}
 	}
 }

@@ -9,6 +9,7 @@ import (
 
 const (
 	maxText   = 200000
+	maxSingle = 40000
 	maxBlocks = 12
 	maxReg    = 9999
 	maxInput  = 20
@@ -34,6 +35,15 @@ func read(text string) (code.Program, Errno, int) {
 		return nil, ErrChoice, at
 	}
 	return program, OK, 0
+}
+
+// readUpTo reads a text of which some calls take no more than most bytes; that it has more is told only if all else is right.
+func readUpTo(most int, text string) (code.Program, Errno, int) {
+	program, fault, at := read(text)
+	if fault == OK && len(text) > most {
+		return nil, ErrLong, 0
+	}
+	return program, fault, at
 }
 
 // strayGoal finds the first number of a block that there is not.

@@ -73,14 +73,16 @@ func TestEveryCallAnswers(t *testing.T) {
 	texts := []string{
 		"", ".", "x", "\xff\xfe", "\x00", "r", "×", "r1=r2\xc3", ">1", ">0", "r1@0:r1;.", strings.Repeat(".|", 13),
 		strings.Repeat("r1=1;", 39999) + ">0", strings.Repeat("!r1;", 49999) + ">0", strings.Repeat(".|", 100000), strings.Repeat("r", 200001), strings.Repeat("×", 1<<20),
-		">1|" + fallingChoices(10000) + ".",
+		">1|" + fallingChoices(10000) + ".", ">1|" + fallingChoices(4000) + ".", manyRegs(12, 450), manyRegs(1, 5500),
 	}
 	for _, text := range texts {
+		testAnswers(t, text, make([]int, 1<<20), 1)
+		testAnswers(t, text, nil, 300)
+	}
+	for _, text := range []string{"", ">0", "!r1;x"} {
 		for _, fuel := range []int{math.MinInt, -1, 0, 1, 300, 301, math.MaxInt} {
 			testAnswers(t, text, []int{1}, fuel)
 		}
-		testAnswers(t, text, nil, 1)
-		testAnswers(t, text, make([]int, 1<<20), 1)
 	}
 	m := maker{rand.New(rand.NewSource(3))}
 	for range 2000 {
@@ -102,16 +104,37 @@ func fallingChoices(count int) string {
 	return choices.String()
 }
 
+// manyRegs is a program of so many blocks, each of which puts out many registers, and leads back to all.
+func manyRegs(blocks, count int) string {
+	texts := make([]string, blocks)
+	for i := range texts {
+		for reg := range count {
+			texts[i] += fmt.Sprintf("!r%d;", 9999-reg*blocks-i)
+		}
+		texts[i] += fmt.Sprintf("r1?%d:%d", (i+1)%blocks, i)
+	}
+	return strings.Join(texts, "|")
+}
+
 func TestAnswersHangOnArgumentsAlone(t *testing.T) {
-	text := "r1=?;!r1;!r2;r2=r1+r1;>0"
+	text := "r1=?;!r1;!r2;r2=r1+r1;r1?1:2|!r3;!r4;>3|r4=1;>3|r5@1:r3,2:r4;!r5;r5?0:3"
 	input := []int{3, 4, 5}
-	first, _, _, _ := solo.Run(text, input, 3)
-	want := fmt.Sprint(first)
-	solo.Run("r2=7;!r2;!r2;!r2;!r2;!r2;!r2;.", []int{9}, 2)
-	solo.Check("x")
-	second, _, _, _ := solo.Run(text, input, 3)
-	if fmt.Sprint(first) != want || fmt.Sprint(second) != want {
-		t.Errorf("%v and %v, want %s twice", first, second, want)
+	tell := func() string {
+		out, how, _, _ := solo.Run(text, input, 3)
+		keepers, _, _ := solo.Keepers(text)
+		rims, _, _ := solo.Rims(text)
+		matters, _, _ := solo.Matters(text)
+		errno, at := solo.Single(text)
+		return fmt.Sprint(out, how, keepers, rims, matters, errno, at)
+	}
+	want := tell()
+	m := maker{rand.New(rand.NewSource(7))}
+	for range 200 {
+		answersOf(m.program(), []int{9}, 2)
+		answersOf(m.spoilt(text), []int{9}, 2)
+		if got := tell(); got != want {
+			t.Fatalf("%s, and first %s", got, want)
+		}
 	}
 }
 
@@ -120,10 +143,64 @@ func TestAnswersAreNewMemory(t *testing.T) {
 	input := []int{3, 4}
 	first, _, _, _ := solo.Run(text, input, 1)
 	second, _, _, _ := solo.Run(text, input, 1)
-	for i := range first[:cap(first)] {
-		first[:cap(first)][i] = 77
-	}
+	overwrite(first)
 	if !slices.Equal(input, []int{3, 4}) || !slices.Equal(second, []int{3, 4}) {
 		t.Errorf("behind a change to an answer: the input %v, the other answer %v", input, second)
+	}
+}
+
+// overwrite changes all of a list's memory, also what lies behind its end.
+func overwrite(list []int) {
+	list = list[:cap(list)]
+	for i := range list {
+		list[i] = 77
+	}
+}
+
+func TestListsAreNewMemory(t *testing.T) {
+	text := "r1?1:2|!r2;!r3;r3?0:2|!r4;r4?1:0"
+	keepers, _, _ := solo.Keepers(text)
+	want := fmt.Sprint(keepers)
+	overwrite(keepers)
+	if again, _, _ := solo.Keepers(text); fmt.Sprint(again) != want {
+		t.Errorf("behind a change to an answer: %v, want %s", again, want)
+	}
+	for name, call := range map[string]func(string) ([][]int, solo.Errno, int){"Rims": solo.Rims, "Matters": solo.Matters} {
+		lists, _, _ := call(text)
+		want := fmt.Sprint(lists)
+		for i := range lists {
+			kept := slices.Clone(lists[i])
+			overwrite(lists[i])
+			copy(lists[i], kept)
+			if fmt.Sprint(lists) != want {
+				t.Errorf("%s: list %d shares memory with another one: %v, want %s", name, i, lists, want)
+			}
+		}
+		for i := range lists {
+			overwrite(lists[i])
+		}
+		if again, _, _ := call(text); fmt.Sprint(again) != want {
+			t.Errorf("%s behind a change to an answer: %v, want %s", name, again, want)
+		}
+	}
+}
+
+func TestErrorsOfCheckComeFirst(t *testing.T) {
+	m := maker{rand.New(rand.NewSource(8))}
+	for range 2000 {
+		text := m.misled(m.program())
+		if m.Intn(2) == 0 {
+			text = m.spoilt(text)
+		}
+		want, wantAt := slowCheck(text)
+		if want == solo.OK {
+			continue
+		}
+		answers := answersOf(text, make([]int, 21), -1)
+		for _, call := range []string{"Check", "Run", "Keepers", "Rims", "Matters", "Single"} {
+			if got := answers[call]; got != (answer{true, want, wantAt}) {
+				t.Fatalf("%s(%q): %v, want the error %d, %d", call, text, got, want, wantAt)
+			}
+		}
 	}
 }

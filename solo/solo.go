@@ -1,6 +1,8 @@
 // Package solo: programs of blocks, each register given once, and back: see DOC.md.
 package solo
 
+import "solo/flow"
+
 // Errno is what a call answers: OK or the reason for a refusal.
 type Errno int
 
@@ -38,16 +40,40 @@ func Run(program string, input []int, fuel int) ([]int, int, Errno, int) {
 }
 
 // Keepers tells each block's keeper (P4).
-func Keepers(program string) ([]int, Errno, int) { return nil, 0, 0 }
+func Keepers(program string) ([]int, Errno, int) {
+	blocks, fault, at := read(program)
+	if fault != OK {
+		return nil, fault, at
+	}
+	return keepersOf(blocks), OK, 0
+}
 
 // Rims tells each block's rim (P4).
-func Rims(program string) ([][]int, Errno, int) { return nil, 0, 0 }
+func Rims(program string) ([][]int, Errno, int) {
+	blocks, fault, at := read(program)
+	if fault != OK {
+		return nil, fault, at
+	}
+	return rimsOf(blocks), OK, 0
+}
 
 // Matters tells which registers matter where (P5).
-func Matters(program string) ([][]int, Errno, int) { return nil, 0, 0 }
+func Matters(program string) ([][]int, Errno, int) {
+	blocks, fault, at := readUpTo(maxSingle, program)
+	if fault != OK {
+		return nil, fault, at
+	}
+	return numbersOfAll(flow.Matters(blocks)), OK, 0
+}
 
 // Single tells whether a program is single (P6).
-func Single(program string) (Errno, int) { return 0, 0 }
+func Single(program string) (Errno, int) {
+	blocks, fault, at := readUpTo(maxSingle, program)
+	if fault != OK {
+		return fault, at
+	}
+	return notSingle(blocks)
+}
 
 // Make makes a single program (P7).
 func Make(program string) (string, Errno, int) { return "", 0, 0 }
