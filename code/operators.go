@@ -14,6 +14,9 @@ const (
 	opCount
 )
 
+// signs holds how each operator is written, in their order.
+const signs = "+-*<"
+
 // deeds holds what each operator does.
 var deeds [opCount]func(left, right Word) Word
 
@@ -39,6 +42,8 @@ func (left Word) less(right Word) Word {
 	}
 	return 0
 }
+
+func (op Op) text() string { return signs[op : op+1] }
 
 func opOf(sign rune) (Op, bool) {
 	switch sign {

@@ -1,7 +1,11 @@
 // Package code: what a program is made of, and how it is read from its text.
 package code
 
-import "solo/set"
+import (
+	"slices"
+
+	"solo/set"
+)
 
 // RegNumber is a register's number, BlockNumber a block's: two types, so that neither is taken for the other.
 type RegNumber int
@@ -47,6 +51,9 @@ type Step interface {
 	Reads() []Reg
 	// Gives tells the register that the step gives; false, if it gives none.
 	Gives() (Reg, bool)
+	// Renamed makes the same step with other registers: some for those that it reads, some for those that it gives.
+	Renamed(read, given Naming) Step
+	text() string
 }
 
 // Load is the step reg = value.
@@ -89,6 +96,9 @@ type End interface {
 	Goals() []Goal
 	// Reads lists the registers that the end reads.
 	Reads() []Reg
+	// Renamed makes the same end with other registers.
+	Renamed(read Naming) End
+	text() string
 }
 
 // Stop is the end of a run.
@@ -129,6 +139,24 @@ func (p Program) Ahead() []set.Set[BlockNumber] {
 		}
 	}
 	return ahead
+}
+
+// Chooses tells whether a choice of the block gives the register.
+func (b Block) Chooses(reg RegNumber) bool {
+	return slices.ContainsFunc(b.Choices, func(choice Choice) bool { return choice.To.Number == reg })
+}
+
+// Origin tells which register's number a register holds behind the choices, if one comes from another block: the one that is chosen for it, or itself.
+func (b Block) Origin(reg RegNumber, from BlockNumber) RegNumber {
+	for _, choice := range b.Choices {
+		if choice.To.Number != reg {
+			continue
+		}
+		if chosen, ok := choice.RegFrom(from); ok {
+			return chosen
+		}
+	}
+	return reg
 }
 
 // RegFrom tells which register is chosen, if one comes from the block; false, if the choice does not name that block.

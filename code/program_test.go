@@ -63,3 +63,21 @@ func TestRegFrom(t *testing.T) {
 		}
 	}
 }
+
+func TestOrigin(t *testing.T) {
+	block := mustRead(t, "r1@0:r5,2:r6;r2@0:r1,2:r1;.")[0]
+	for _, c := range []struct {
+		reg  RegNumber
+		from BlockNumber
+		want RegNumber
+	}{{1, 0, 5}, {1, 2, 6}, {2, 0, 1}, {5, 0, 5}, {1, 1, 1}} {
+		if got := block.Origin(c.reg, c.from); got != c.want {
+			t.Errorf("Origin(%d, %d) = %d, want %d", c.reg, c.from, got, c.want)
+		}
+	}
+	for reg, want := range []bool{false, true, true, false, false, false, false} {
+		if got := block.Chooses(RegNumber(reg)); got != want {
+			t.Errorf("Chooses(%d) = %v", reg, got)
+		}
+	}
+}

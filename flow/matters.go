@@ -23,6 +23,20 @@ type effect struct{ reads, gives Regs }
 
 // Matters tells for each block of a program the registers that matter at its beginning, behind its choices.
 func Matters(program code.Program) []Regs {
+	return settled(program, func(block code.BlockNumber, found mattering) Regs {
+		return atEnd(program, block, found)
+	})
+}
+
+// Needs tells for each block of a program the registers of those that matter at its beginning that a step or an end reads, if only through choices. (What is read by choices alone matters, but nobody needs it.)
+func Needs(program code.Program) []Regs {
+	return settled(program, func(block code.BlockNumber, found mattering) Regs {
+		return neededAtEnd(program, block, found)
+	})
+}
+
+// settled finds the registers that matter at each block's beginning, from what later tells of those that matter at a block's end.
+func settled(program code.Program, later func(block code.BlockNumber, found mattering) Regs) []Regs {
 	effects := make([]effect, len(program))
 	for i, block := range program {
 		effects[i] = effectOf(block)
@@ -30,8 +44,7 @@ func Matters(program code.Program) []Regs {
 	return rounds.Settle(make(mattering, len(program)), func(found mattering) mattering {
 		next := make(mattering, len(program))
 		for i, does := range effects {
-			later := atEnd(program, code.BlockNumber(i), found)
-			next[i] = does.reads.Union(later.Minus(does.gives))
+			next[i] = does.reads.Union(later(code.BlockNumber(i), found).Minus(does.gives))
 		}
 		return next
 	})
@@ -76,4 +89,15 @@ func entry(choices []code.Choice, from code.BlockNumber) (chosen, given Regs) {
 		given.Add(choice.To.Number)
 	}
 	return chosen, given
+}
+
+// neededAtEnd tells the registers that are needed at the end of a block: those from which the needed ones of the blocks behind it come.
+func neededAtEnd(program code.Program, block code.BlockNumber, found mattering) Regs {
+	var regs Regs
+	for _, next := range program[block].Behind().Items() {
+		for _, reg := range found[next].Items() {
+			regs.Add(program[next].Origin(reg, block))
+		}
+	}
+	return regs
 }

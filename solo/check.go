@@ -10,8 +10,10 @@ import (
 const (
 	maxText   = 200000
 	maxSingle = 40000
+	maxSource = 300
 	maxBlocks = 12
 	maxReg    = 9999
+	maxOld    = 4999
 	maxInput  = 20
 	maxFuel   = 300
 )
@@ -44,6 +46,48 @@ func readUpTo(most int, text string) (code.Program, Errno, int) {
 		return nil, ErrLong, 0
 	}
 	return program, fault, at
+}
+
+// readOld reads a text of which some calls take no registers above maxOld.
+func readOld(text string) (code.Program, Errno, int) {
+	program, fault, at := readUpTo(maxSingle, text)
+	if fault != OK {
+		return nil, fault, at
+	}
+	if at, found := newReg(program); found {
+		return nil, ErrReg, at
+	}
+	return program, OK, 0
+}
+
+// newReg finds the first register above maxOld.
+func newReg(program code.Program) (int, bool) {
+	for _, block := range program {
+		for _, reg := range regsOf(block) {
+			if reg.Number > maxOld {
+				return reg.At, true
+			}
+		}
+	}
+	return 0, false
+}
+
+// regsOf lists all registers that a block names, in the order of the text.
+func regsOf(block code.Block) []code.Reg {
+	var regs []code.Reg
+	for _, choice := range block.Choices {
+		regs = append(regs, choice.To)
+		for _, source := range choice.Sources {
+			regs = append(regs, source.Reg)
+		}
+	}
+	for _, step := range block.Steps {
+		if to, ok := step.Gives(); ok {
+			regs = append(regs, to)
+		}
+		regs = append(regs, step.Reads()...)
+	}
+	return append(regs, block.End.Reads()...)
 }
 
 // strayGoal finds the first number of a block that there is not.

@@ -60,6 +60,9 @@ func testAnswers(t *testing.T, text string, input []int, fuel int) {
 		if a.errno != solo.OK && !a.empty {
 			t.Errorf("%s of %.80q: results beside the error %d", call, text, a.errno)
 		}
+		if turns := strings.Contains("Make Lean Plain", call); turns && a.errno == solo.OK && a.empty {
+			t.Errorf("%s of %.80q: neither an error nor a program", call, text)
+		}
 		if (a.errno == solo.OK || a.errno == solo.ErrLong || a.errno == solo.ErrArg) && a.at != 0 {
 			t.Errorf("%s of %.80q: the place %d beside %d", call, text, a.at, a.errno)
 		}
@@ -125,7 +128,10 @@ func TestAnswersHangOnArgumentsAlone(t *testing.T) {
 		rims, _, _ := solo.Rims(text)
 		matters, _, _ := solo.Matters(text)
 		errno, at := solo.Single(text)
-		return fmt.Sprint(out, how, keepers, rims, matters, errno, at)
+		made, _, _ := solo.Make(text)
+		lean, _, _ := solo.Lean(made)
+		plain, _, _ := solo.Plain(text)
+		return fmt.Sprint(out, how, keepers, rims, matters, errno, at, made, lean, plain)
 	}
 	want := tell()
 	m := maker{rand.New(rand.NewSource(7))}
@@ -197,7 +203,7 @@ func TestErrorsOfCheckComeFirst(t *testing.T) {
 			continue
 		}
 		answers := answersOf(text, make([]int, 21), -1)
-		for _, call := range []string{"Check", "Run", "Keepers", "Rims", "Matters", "Single"} {
+		for _, call := range []string{"Check", "Run", "Keepers", "Rims", "Matters", "Single", "Make", "Lean", "Plain"} {
 			if got := answers[call]; got != (answer{true, want, wantAt}) {
 				t.Fatalf("%s(%q): %v, want the error %d, %d", call, text, got, want, wantAt)
 			}

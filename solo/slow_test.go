@@ -275,8 +275,11 @@ func (m maker) choices(ahead []string) []string {
 	return choices
 }
 
-func (m maker) program() string {
-	blocks := make([]string, 1+m.Intn(6))
+func (m maker) program() string { return m.programOf(1 + m.Intn(6)) }
+
+// programOf makes a program of so many blocks.
+func (m maker) programOf(count int) string {
+	blocks := make([]string, count)
 	for i := range blocks {
 		blocks[i] = m.end(len(blocks))
 	}

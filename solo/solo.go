@@ -1,7 +1,10 @@
 // Package solo: programs of blocks, each register given once, and back: see DOC.md.
 package solo
 
-import "solo/flow"
+import (
+	"solo/flow"
+	"solo/turn"
+)
 
 // Errno is what a call answers: OK or the reason for a refusal.
 type Errno int
@@ -75,11 +78,32 @@ func Single(program string) (Errno, int) {
 	return notSingle(blocks)
 }
 
-// Make makes a single program (P7).
-func Make(program string) (string, Errno, int) { return "", 0, 0 }
+// Make makes a single program that does the same (P7).
+func Make(program string) (string, Errno, int) {
+	blocks, fault, at := readUpTo(maxSource, program)
+	if fault != OK {
+		return "", fault, at
+	}
+	return turn.Make(blocks).Text(), OK, 0
+}
 
 // Lean makes a single program lean (P8).
-func Lean(program string) (string, Errno, int) { return "", 0, 0 }
+func Lean(program string) (string, Errno, int) {
+	blocks, fault, at := readOld(program)
+	if fault == OK {
+		fault, at = notSingle(blocks)
+	}
+	if fault != OK {
+		return "", fault, at
+	}
+	return turn.Lean(blocks, maxOld).Text(), OK, 0
+}
 
-// Plain makes a program without choices (P8).
-func Plain(program string) (string, Errno, int) { return "", 0, 0 }
+// Plain makes a program without choices that does the same (P8).
+func Plain(program string) (string, Errno, int) {
+	blocks, fault, at := readOld(program)
+	if fault != OK {
+		return "", fault, at
+	}
+	return turn.Plain(blocks, maxOld).Text(), OK, 0
+}
